@@ -5,22 +5,27 @@ import (
 	"bytes"
 
 	"shadow/api"
+	"shadow/code"
+	"shadow/node"
 	"shadow/volume"
 )
 
 // Slots is how many heads there are; they lie in the first blocks.
 const Slots = 2
 
-// The parts of a head's sector: the mark, the number, noughts, and the sum of all ahead of it.
+// The parts of a head's sector: the mark, the block of the root, the head's number, the sum of the root, and the sum of all ahead of it.
 const (
-	mark     = "shadow01"
-	numberAt = 8
-	sumAt    = api.Sector - 8
+	mark     = "shadow"
+	blockAt  = len(mark)
+	numberAt = blockAt + 2
+	rootAt   = numberAt + 8
+	sumAt    = rootAt + 8
 )
 
-// Head is of a store that is empty. Numbers rise by one from head to head, and wrap round.
+// Head leads to the root of a tree; of one that is empty it has no place. Numbers rise by one from head to head, and wrap round.
 type Head struct {
 	Number uint64
+	Root   node.Place
 }
 
 // Newest is the head that holds; false, if there is none.
@@ -33,7 +38,7 @@ func Newest(v *volume.Volume) (Head, bool) {
 	return a, isA
 }
 
-// Next is the head to be laid behind this one: its place is that of the head ahead of this one, which nobody needs any more.
+// Next is the head, of an empty tree, to be laid behind this one: its place is that of the head ahead of this one, which nobody needs any more.
 func (h Head) Next() Head {
 	return Head{Number: h.Number + 1}
 }
@@ -41,8 +46,7 @@ func (h Head) Next() Head {
 // Lay writes a head in its place, and makes sure of it.
 func Lay(v *volume.Volume, h Head) {
 	var b volume.Block
-	s := h.sector()
-	copy(b[:], s[:])
+	copy(b[:], h.sector())
 	v.Save(h.place(), b)
 	v.Settle()
 }
@@ -60,44 +64,20 @@ func (h Head) newer(than Head) bool {
 // find is the head that lies in a block; false, if none does. Only its own sector counts: the others may be of another write.
 func find(v *volume.Volume, i int) (Head, bool) {
 	b := v.Load(i)
-	h := Head{Number: number(b[numberAt:])}
-	s := h.sector()
-	if h.place() != i || !bytes.Equal(s[:], b[:api.Sector]) {
+	h := Head{
+		Number: code.Number(b[numberAt:rootAt]),
+		Root:   node.Place{Block: int(code.Number(b[blockAt:numberAt])), Sum: code.Number(b[rootAt:sumAt])},
+	}
+	if h.place() != i || !bytes.Equal(h.sector(), b[:api.Sector]) {
 		return Head{}, false
 	}
 	return h, true
 }
 
 // sector is the head as it lies on a device.
-func (h Head) sector() [api.Sector]byte {
-	var s [api.Sector]byte
-	copy(s[:], mark)
-	setNumber(s[numberAt:], h.Number)
-	setNumber(s[sumAt:], sum(s[:sumAt]))
-	return s
-}
-
-// number reads 8 bytes, the lowest first.
-func number(b []byte) uint64 {
-	var n uint64
-	for i := range 8 {
-		n |= uint64(b[i]) << (8 * i)
-	}
-	return n
-}
-
-// setNumber writes 8 bytes, the lowest first.
-func setNumber(b []byte, n uint64) {
-	for i := range 8 {
-		b[i] = byte(n >> (8 * i))
-	}
-}
-
-// sum is FNV-1a: each of its steps can be undone, so no change of a single byte leaves it as it was.
-func sum(b []byte) uint64 {
-	s := uint64(14695981039346656037)
-	for _, x := range b {
-		s = (s ^ uint64(x)) * 1099511628211
-	}
-	return s
+func (h Head) sector() []byte {
+	b := code.Append([]byte(mark), uint64(h.Root.Block), numberAt-blockAt)
+	b = code.Append(b, h.Number, rootAt-numberAt)
+	b = code.Append(b, h.Root.Sum, sumAt-rootAt)
+	return code.Append(b, code.Sum(b), api.Sector-sumAt)
 }

@@ -5,6 +5,7 @@ import (
 	"testing"
 
 	"shadow/api"
+	"shadow/node"
 	"shadow/volume"
 )
 
@@ -63,6 +64,21 @@ func TestNextIsNewerElsewhere(t *testing.T) {
 	}
 }
 
+// What a head leads to is found as it was laid; the one laid behind it leads nowhere, till it is told where.
+func TestRoot(t *testing.T) {
+	for _, root := range []node.Place{{}, {Block: 2, Sum: 1}, {Block: 399, Sum: math.MaxUint64}, {Block: 256, Sum: 1 << 63}} {
+		v := volume.On(with(7))
+		h := Head{Number: 8, Root: root}
+		Lay(v, h)
+		if got, ok := Newest(v); !ok || got != h {
+			t.Errorf("P4: laid %v, found %v, %v", h, got, ok)
+		}
+		if next := h.Next(); next.Root != (node.Place{}) {
+			t.Errorf("P3: the head behind %v leads to %v", h, next.Root)
+		}
+	}
+}
+
 // A bit of the head's sector that is turned undoes the head; the other sectors of its block may be of another write.
 func TestBits(t *testing.T) {
 	for _, n := range []uint64{0, 1, 77, math.MaxUint64} {
@@ -108,16 +124,6 @@ func TestLayCut(t *testing.T) {
 					t.Errorf("P3: laid %d (%v), off behind %d calls, sectors %b: %d, %v", old+1, err, at, keep, n, ok)
 				}
 			}
-		}
-	}
-}
-
-func TestNumbers(t *testing.T) {
-	for _, n := range []uint64{0, 1, 255, 256, 1<<32 + 5, math.MaxUint64, 0x0102030405060708} {
-		b := make([]byte, 9)
-		setNumber(b, n)
-		if number(b) != n || b[0] != byte(n) || b[8] != 0 {
-			t.Errorf("the number %d is written as %v", n, b)
 		}
 	}
 }

@@ -4,13 +4,13 @@ package shadow
 import (
 	"shadow/api"
 	"shadow/head"
+	"shadow/tree"
 	"shadow/volume"
 )
 
 // DB is open on a device.
 type DB struct {
-	on        *volume.Volume
-	committed head.Head
+	*store
 }
 
 // Format lays an empty store on a device (P3). Each head it lays is newer than all others and takes the place of the oldest: wherever it is cut off, the newest one is of what was there, or empty.
@@ -34,55 +34,19 @@ func Open(d api.Device) (*DB, error) {
 		if !ok {
 			volume.Throw(api.ErrCorrupt)
 		}
+		blocks := tree.At(v, h.Root).Check()
 		v.Settle()
-		x = &DB{on: v, committed: h}
+		x = &DB{&store{on: v, committed: h, room: v.Blocks() - head.Slots - blocks}}
 	})
 	return x, err
 }
 
 // Begin begins a transaction (P5).
-func (x *DB) Begin(write bool) (*Txn, error) { return nil, nil }
-
-// Txn is a transaction.
-type Txn struct{}
-
-// Put gives a key a value (P6).
-func (t *Txn) Put(key string, value string) error { return nil }
-
-// Delete takes a key away (P6).
-func (t *Txn) Delete(key string) error { return nil }
-
-// Get tells a key's value, and whether it has one (P6).
-func (t *Txn) Get(key string) (string, bool, error) { return "", false, nil }
-
-// All goes through the pairs from one key on up to another (P7).
-func (t *Txn) All(lo string, hi string) func(yield func(p api.Pair, err error) bool) {
-	return func(yield func(p api.Pair, err error) bool) {}
+func (x *DB) Begin(write bool) (*Txn, error) {
+	var t *Txn
+	err := x.alone("Begin", func() {
+		x.enter(write)
+		t = &Txn{store: x.store, writes: write, sees: tree.At(x.on, x.committed.Root)}
+	})
+	return t, err
 }
-
-// Cursor makes a cursor (P8).
-func (t *Txn) Cursor() (*Cursor, error) { return nil, nil }
-
-// Commit makes sure of the transaction's changes (P9).
-func (t *Txn) Commit() error { return nil }
-
-// Abort forgets them (P9).
-func (t *Txn) Abort() error { return nil }
-
-// Cursor stands on a pair, or nowhere.
-type Cursor struct{}
-
-// First goes to the first pair (P8).
-func (c *Cursor) First() (api.Pair, bool, error) { return api.Pair{}, false, nil }
-
-// Last goes to the last one (P8).
-func (c *Cursor) Last() (api.Pair, bool, error) { return api.Pair{}, false, nil }
-
-// Seek goes to the first pair whose key is not less (P8).
-func (c *Cursor) Seek(key string) (api.Pair, bool, error) { return api.Pair{}, false, nil }
-
-// Next goes to the next pair (P8).
-func (c *Cursor) Next() (api.Pair, bool, error) { return api.Pair{}, false, nil }
-
-// Prev goes to the pair ahead (P8).
-func (c *Cursor) Prev() (api.Pair, bool, error) { return api.Pair{}, false, nil }

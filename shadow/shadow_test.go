@@ -59,6 +59,7 @@ func starts(t *testing.T) map[string]func() *api.Disk {
 		"twice":     func() *api.Disk { return formatted(t, 20, 2) },
 		"one head":  func() *api.Disk { return formatted(t, 20, 1).Turned(0) },
 		"the other": func() *api.Disk { return formatted(t, 20, 1).Turned(api.Block * 8) },
+		"a tree":    func() *api.Disk { return stored(t, 20, keys(12)...) },
 		"cut off": func() *api.Disk {
 			d := formatted(t, 20, 1)
 			d.Off(4)
@@ -339,6 +340,31 @@ func TestUnknownBytes(t *testing.T) {
 		}
 		want(t, "P3: Format of unknown bytes", Format(d), api.OK)
 		opened(t, d)
+	}
+}
+
+// The same, where a tree is: each bit that is turned undoes the store, or leaves what is committed, or what was ahead of it.
+func TestTurnedBits(t *testing.T) {
+	d := stored(t, 20, keys(12)...)
+	whole := sees(t, begin(t, open(t, d), false))
+	found := map[string]int{}
+	for bit := range 20 * api.Block * 8 {
+		x, err := Open(d.Turned(bit))
+		if err != nil {
+			want(t, "P13: Open", err, api.ErrCorrupt)
+			found["nothing"]++
+			continue
+		}
+		s := sees(t, begin(t, x, false))
+		if s != whole && s != "" {
+			t.Fatalf("P13: bit %d turned: %s", bit, s)
+		}
+		found[s]++
+	}
+	for _, s := range []string{"nothing", whole, ""} {
+		if found[s] == 0 {
+			t.Errorf("P13: no bit turned leaves %q", s)
+		}
 	}
 }
 

@@ -79,6 +79,25 @@ func TestNoDevice(t *testing.T) {
 	}
 }
 
+// A device that tells another number of blocks later has those it told first.
+func TestSizeStays(t *testing.T) {
+	o := &odd{blocks: 20}
+	v := On(o)
+	for _, n := range []int{0, 19, 21, -1} {
+		o.blocks = n
+		if v.Blocks() != 20 {
+			t.Errorf("P2: of 20 blocks there are %d", v.Blocks())
+		}
+	}
+}
+
+func TestSpoilt(t *testing.T) {
+	err := Catch("Get", func() { On(&odd{blocks: 20}).Spoilt(3) })
+	if !onlyIO(err) || !strings.HasPrefix(err.Error(), "Get: read of block 3: ") {
+		t.Errorf("P1: %v, want ErrIO", err)
+	}
+}
+
 func TestLoad(t *testing.T) {
 	long := bytes.Repeat([]byte{7}, api.Block+5)
 	for _, n := range []int{0, 1, api.Block - 1, api.Block, api.Block + 5} {
