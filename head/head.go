@@ -38,9 +38,9 @@ func Newest(v *volume.Volume) (Head, bool) {
 	return a, isA
 }
 
-// Next is the head, of an empty tree, to be laid behind this one: its place is that of the head ahead of this one, which nobody needs any more.
-func (h Head) Next() Head {
-	return Head{Number: h.Number + 1}
+// Next is the head to be laid behind this one: its place is that of the head ahead of this one, which nobody needs any more.
+func (h Head) Next(root node.Place) Head {
+	return Head{h.Number + 1, root}
 }
 
 // Lay writes a head in its place, and makes sure of it.

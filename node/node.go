@@ -50,6 +50,13 @@ func (n *Node) Count() int {
 	return len(n.Pairs) + len(n.Links)
 }
 
+// Lay writes the node in a block, and tells its place.
+func (n *Node) Lay(v *volume.Volume, block int) Place {
+	b := n.Block()
+	v.Save(block, b)
+	return Place{block, code.Sum(b[:])}
+}
+
 // Read reads the node that was laid at a place; false, if something else lies there.
 func Read(v *volume.Volume, at Place) (*Node, bool) {
 	b := v.Load(at.Block)

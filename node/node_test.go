@@ -261,3 +261,27 @@ func TestReadNoNode(t *testing.T) {
 		t.Error("P13: what is no node is read")
 	}
 }
+
+// A node that is laid is read again at its place, and only there.
+func TestLay(t *testing.T) {
+	d := api.NewDisk(api.MaxBlocks)
+	v := volume.On(d)
+	for i, n := range []*Node{
+		{Pairs: pairs(1, 1, 1)},
+		{Level: 1, Links: []Link{{Place: Place{2, 3}}, {Key: "b", Place: Place{399, 1 << 63}}}},
+	} {
+		for _, block := range []int{2, 20, 255, 399} {
+			at := n.Lay(v, block)
+			got, ok := Read(v, at)
+			if !ok || at.Block != block || !reflect.DeepEqual(got, n) {
+				t.Errorf("P9: the %d-th node, laid in block %d: %v, %v", i, block, at, ok)
+			}
+			if _, ok := Read(v, Place{block - 1, at.Sum}); ok {
+				t.Errorf("P9: the %d-th node, laid in block %d, is read ahead of it", i, block)
+			}
+		}
+	}
+	if d.Writes() != 8 {
+		t.Errorf("P12: eight nodes take %d writes", d.Writes())
+	}
+}

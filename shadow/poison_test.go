@@ -28,7 +28,7 @@ func staged(t *testing.T) *scene {
 	return s
 }
 
-// reading are the calls that read the device.
+// reading are the calls that ask the device for something.
 func (s *scene) reading() map[string]func() (bool, error) {
 	out := map[string]func() (bool, error){
 		"a reader's All": func() (bool, error) { l, err := all(s.r, "k000", last); return l != nil, err },
@@ -36,7 +36,7 @@ func (s *scene) reading() map[string]func() (bool, error) {
 	}
 	for name, call := range calls(s.x, s.w, s.c) {
 		switch name {
-		case "Put", "Delete", "Get", "All", "First", "Last", "Next", "Prev", "Seek":
+		case "Put", "Delete", "Get", "All", "First", "Last", "Next", "Prev", "Seek", "Commit":
 			out[name] = call
 		}
 	}
@@ -68,7 +68,7 @@ func (s *scene) poisoned(t *testing.T, behind string) {
 	}
 }
 
-// An error of the device at each of a call's reads is told, with nothing beside it; the store is poisoned then.
+// An error of the device at each of its calls that a call makes is told, with nothing beside it; the store is poisoned then.
 func TestPoisoned(t *testing.T) {
 	for name := range staged(t).reading() {
 		for at := 0; ; at++ {
@@ -172,23 +172,6 @@ func TestWritesNothing(t *testing.T) {
 	want(t, "P9: Commit of one that changed nothing", begin(t, s.x, true).Commit(), api.OK)
 	if s.d.Bytes() != before || s.d.Writes() != writes || s.d.Pending() != 0 {
 		t.Error("P12: something was written")
-	}
-}
-
-// Commit of one that writes: it is over, whatever is answered, and what is committed is what it saw, or what was.
-func TestCommitOfOneThatWrites(t *testing.T) {
-	for _, blocks := range []int{8, 40} {
-		x := open(t, formatted(t, blocks, 1))
-		w := begin(t, x, true)
-		want(t, "P6: Put", w.Put("a", "1"), api.OK)
-		err := w.Commit()
-		if e := told(err); e != api.OK && e != api.ErrSpace {
-			t.Errorf("P9: Commit: %v", err)
-		}
-		want(t, "P9: Commit again", w.Commit(), api.ErrDone)
-		if s := sees(t, begin(t, x, true)); s != map[bool]string{true: "a=1 ", false: ""}[err == nil] {
-			t.Errorf("P9: behind Commit (%v): %s", err, s)
-		}
 	}
 }
 

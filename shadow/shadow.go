@@ -4,6 +4,7 @@ package shadow
 import (
 	"shadow/api"
 	"shadow/head"
+	"shadow/node"
 	"shadow/tree"
 	"shadow/volume"
 )
@@ -19,7 +20,7 @@ func Format(d api.Device) error {
 		v := volume.On(d)
 		h, _ := head.Newest(v)
 		for range head.Slots {
-			h = h.Next()
+			h = h.Next(node.Place{})
 			head.Lay(v, h)
 		}
 	})
@@ -36,7 +37,7 @@ func Open(d api.Device) (*DB, error) {
 		}
 		blocks := tree.At(v, h.Root).Check()
 		v.Settle()
-		x = &DB{&store{on: v, committed: h, room: v.Blocks() - head.Slots - blocks}}
+		x = &DB{&store{on: v, committed: h, blocks: blocks, readers: map[uint64]tree.Tree{}}}
 	})
 	return x, err
 }
@@ -45,8 +46,7 @@ func Open(d api.Device) (*DB, error) {
 func (x *DB) Begin(write bool) (*Txn, error) {
 	var t *Txn
 	err := x.alone("Begin", func() {
-		x.enter(write)
-		t = &Txn{store: x.store, writes: write, sees: tree.At(x.on, x.committed.Root)}
+		t = &Txn{store: x.store, writes: write, sees: x.now(), number: x.enter(write)}
 	})
 	return t, err
 }

@@ -2,10 +2,13 @@ package shadow
 
 import (
 	"errors"
+	"maps"
+	"slices"
 	"sync"
 
 	"shadow/api"
 	"shadow/head"
+	"shadow/tree"
 	"shadow/volume"
 )
 
@@ -14,10 +17,11 @@ type store struct {
 	lock      sync.Mutex
 	on        *volume.Volume
 	committed head.Head
-	room      int  // blocks that neither the heads take nor what is committed
-	poisoned  bool // the device told an error
-	writing   bool // a transaction that writes goes on
-	reading   int  // how many that read go on
+	blocks    int                  // in which what is committed lies
+	poisoned  bool                 // the device told an error
+	begun     uint64               // transactions so far: each has a number
+	writer    uint64               // of the one that writes and goes on; 0: there is none
+	readers   map[uint64]tree.Tree // what those see that read and go on
 }
 
 // alone does the work of a call while no other works, and tells what was thrown in it.
@@ -36,23 +40,55 @@ func (s *store) alone(call string, work func()) error {
 	return err
 }
 
-// enter counts a transaction that begins. It throws ErrBusy, if there is one too many.
-func (s *store) enter(write bool) {
-	switch {
-	case write && s.writing, !write && s.reading == api.MaxReads:
-		volume.Throw(api.ErrBusy)
-	case write:
-		s.writing = true
-	default:
-		s.reading++
-	}
+// now is what is committed.
+func (s *store) now() tree.Tree {
+	return tree.At(s.on, s.committed.Root)
 }
 
-// leave counts one that is over.
-func (s *store) leave(write bool) {
-	if write {
-		s.writing = false
-	} else {
-		s.reading--
+// room is how many blocks neither the heads take nor what is committed.
+func (s *store) room() int {
+	return s.on.Blocks() - head.Slots - s.blocks
+}
+
+// enter gives a transaction that begins its number. It throws ErrBusy, if there is one too many.
+func (s *store) enter(write bool) uint64 {
+	if write && s.writer != 0 || !write && len(s.readers) == api.MaxReads {
+		volume.Throw(api.ErrBusy)
 	}
+	s.begun++
+	if write {
+		s.writer = s.begun
+	} else {
+		s.readers[s.begun] = s.now()
+	}
+	return s.begun
+}
+
+// leave: the transaction with the number is over.
+func (s *store) leave(number uint64) {
+	if number == s.writer {
+		s.writer = 0
+	}
+	delete(s.readers, number)
+}
+
+// commit lays a tree down beside what is committed and what is read still, and behind that the head that leads to it: so both are whole as long as either may be found.
+func (s *store) commit(then tree.Tree) {
+	now := s.now()
+	if then == now {
+		return
+	}
+	root, blocks := then.Lay(append(s.read(), now)...)
+	h := s.committed.Next(root)
+	head.Lay(s.on, h)
+	s.committed, s.blocks = h, blocks
+}
+
+// read are the trees that are read still, in the order in which the transactions began: that of the map would change the order in which the device is asked.
+func (s *store) read() []tree.Tree {
+	var list []tree.Tree
+	for _, number := range slices.Sorted(maps.Keys(s.readers)) {
+		list = append(list, s.readers[number])
+	}
+	return list
 }

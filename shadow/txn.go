@@ -11,6 +11,7 @@ import (
 // Txn is a transaction.
 type Txn struct {
 	*store
+	number  uint64
 	writes  bool
 	over    bool
 	sees    tree.Tree
@@ -53,7 +54,7 @@ func (t *Txn) Put(key string, value string) error {
 			volume.Throw(api.ErrValue)
 		}
 		then := t.sees.Put(api.Pair{Key: strings.Clone(key), Value: strings.Clone(value)})
-		if then.New() > t.room {
+		if then.New() > t.room() {
 			volume.Throw(api.ErrSpace)
 		}
 		t.sees = then
@@ -102,17 +103,18 @@ func (t *Txn) Cursor() (*Cursor, error) {
 	return c, err
 }
 
-// Commit makes sure of the transaction's changes (P9). That is not built yet: there is no room for changes on any device.
+// Commit makes sure of what the transaction sees (P9).
 func (t *Txn) Commit() error {
 	return t.going("Commit", func() {
+		sees := t.sees
 		t.end()
-		if t.changes > 0 {
-			volume.Throw(api.ErrSpace)
+		if t.writes {
+			t.commit(sees)
 		}
 	})
 }
 
-// Abort forgets them (P9).
+// Abort forgets what it changed (P9).
 func (t *Txn) Abort() error {
 	return t.going("Abort", t.end)
 }
@@ -121,5 +123,5 @@ func (t *Txn) Abort() error {
 func (t *Txn) end() {
 	t.over = true
 	t.sees = tree.Tree{}
-	t.leave(t.writes)
+	t.leave(t.number)
 }

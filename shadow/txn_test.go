@@ -12,7 +12,6 @@ import (
 	"testing"
 
 	"shadow/api"
-	"shadow/code"
 	"shadow/head"
 	"shadow/node"
 	"shadow/volume"
@@ -23,10 +22,8 @@ const last = "\xff\xff\xff\xff\xff\xff\xff\xff\xff"
 
 // put lays a node in the next block.
 func put(v *volume.Volume, next *int, n *node.Node) node.Place {
-	b := n.Block()
 	*next++
-	v.Save(*next, b)
-	return node.Place{Block: *next, Sum: code.Sum(b[:])}
+	return n.Lay(v, *next)
 }
 
 // pieces cuts a list into pieces of three, of which the last may have up to five entries.
@@ -63,9 +60,7 @@ func stored(t *testing.T, blocks int, keys ...string) *api.Disk {
 		links = above
 	}
 	h, _ := head.Newest(v)
-	h = h.Next()
-	h.Root = links[0].Place
-	head.Lay(v, h)
+	head.Lay(v, h.Next(links[0].Place))
 	return d
 }
 

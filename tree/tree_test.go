@@ -16,13 +16,6 @@ import (
 	"shadow/volume"
 )
 
-// put lays a node in a block.
-func put(v *volume.Volume, block int, n *node.Node) node.Place {
-	b := n.Block()
-	v.Save(block, b)
-	return node.Place{Block: block, Sum: code.Sum(b[:])}
-}
-
 // laid is a tree all of whose nodes lie on a new disk, beside none of another.
 func laid(t Tree) (Tree, *api.Disk) {
 	d := api.NewDisk(api.MaxBlocks)
@@ -35,7 +28,7 @@ func laid(t Tree) (Tree, *api.Disk) {
 			n.Links = append(n.Links, node.Link{Key: below.Key, Place: lay(below)})
 		}
 		next++
-		return put(to, next, n)
+		return n.Lay(to, next)
 	}
 	if t.empty() {
 		return At(to, node.Place{}), d
@@ -256,6 +249,17 @@ func TestDeleteOfNone(t *testing.T) {
 	}
 }
 
+// changed is a tree with a random change, which is made in a map, too.
+func changed(tr Tree, m map[string]string, k kind, r *rand.Rand) Tree {
+	key, value := k.key(r), k.value(r)
+	if r.Intn(3) > 0 {
+		m[key] = value
+		return tr.Put(api.Pair{Key: key, Value: value})
+	}
+	delete(m, key)
+	return tr.Delete(key)
+}
+
 // No tree is changed by what is made of it.
 func TestTreesStay(t *testing.T) {
 	for _, k := range kinds() {
@@ -264,13 +268,7 @@ func TestTreesStay(t *testing.T) {
 		var trees []Tree
 		var contents []map[string]string
 		for i := range 400 {
-			key, value := k.key(r), k.value(r)
-			if r.Intn(3) > 0 {
-				tr, m[key] = tr.Put(api.Pair{Key: key, Value: value}), value
-			} else {
-				tr = tr.Delete(key)
-				delete(m, key)
-			}
+			tr = changed(tr, m, k, r)
 			if i%10 == 0 {
 				trees, contents = append(trees, tr), append(contents, maps.Clone(m))
 			}
@@ -289,7 +287,7 @@ func full(n int) (Tree, map[string]string) {
 	v, next, m := volume.On(api.NewDisk(api.MaxBlocks)), head.Slots-1, map[string]string{}
 	lay := func(key string, n *node.Node) node.Link {
 		next++
-		return node.Link{Key: key, Place: put(v, next, n)}
+		return node.Link{Key: key, Place: n.Lay(v, next)}
 	}
 	var root node.Node
 	for j := range 30 {
@@ -405,7 +403,7 @@ func (s shape) lay(v *volume.Volume, next *int) node.Place {
 		*next++
 		block = *next
 	}
-	return put(v, block, n)
+	return n.Lay(v, block)
 }
 
 // branch is of level 1, over leaves.
@@ -508,8 +506,8 @@ func TestCheckOfPlaces(t *testing.T) {
 // Two links lead to one and the same node.
 func TestCheckOfOneNodeTwice(t *testing.T) {
 	v := volume.On(api.NewDisk(20))
-	at := put(v, 5, &node.Node{Pairs: []node.Pair{{Pair: api.Pair{Key: "d"}}, {Pair: api.Pair{Key: "e"}}, {Pair: api.Pair{Key: "f"}}}})
-	root := put(v, 6, &node.Node{Level: 1, Links: []node.Link{{Place: at}, {Key: "g", Place: at}}})
+	at := (&node.Node{Pairs: []node.Pair{{Pair: api.Pair{Key: "d"}}, {Pair: api.Pair{Key: "e"}}, {Pair: api.Pair{Key: "f"}}}}).Lay(v, 5)
+	root := (&node.Node{Level: 1, Links: []node.Link{{Place: at}, {Key: "g", Place: at}}}).Lay(v, 6)
 	if err := corrupt(At(v, root)); !errors.Is(err, api.ErrCorrupt) {
 		t.Errorf("P13: %v, want ErrCorrupt", err)
 	}
