@@ -93,8 +93,8 @@ func (s story) told(t *testing.T) (d *api.Disk, x *DB, y *Txn, was, then string)
 }
 
 // survivors calls f with choices of the sectors of n writes: with all that there are, if they are few; else with those of whole writes, and some more.
-func survivors(n int, r *rand.Rand, f func(keep []int)) {
-	if n <= 2 {
+func survivors(n int, few int, r *rand.Rand, f func(keep []int)) {
+	if n <= few {
 		choices(n, f)
 		return
 	}
@@ -261,7 +261,7 @@ func TestCommitCut(t *testing.T) {
 				_, err = x.Begin(false)
 				want(t, "P1: Begin of a poisoned store", err, api.ErrPoisoned)
 			}
-			survivors(d.Pending(), r, func(keep []int) {
+			survivors(d.Pending(), 3, r, func(keep []int) {
 				both[found(t, fmt.Sprintf("%s, off behind %d calls, sectors %v", name, at, keep), d.After(keep), may...)]++
 			})
 		}
@@ -282,7 +282,7 @@ func TestOpenCutBehindCommit(t *testing.T) {
 		}
 		d.Off(at)
 		done = y.Commit() == nil
-		survivors(d.Pending(), r, func(keep []int) {
+		survivors(d.Pending(), 2, r, func(keep []int) {
 			for off := range 8 {
 				e := d.After(keep)
 				first := content(t, open(t, d.After(keep)))
@@ -326,7 +326,7 @@ func TestCommitTold(t *testing.T) {
 					found(t, fmt.Sprintf("%s, an error behind %d calls, sectors %v", name, at, keep), d.After(keep), was, then)
 				}
 				if off < 0 {
-					survivors(d.Pending(), r, check)
+					survivors(d.Pending(), 2, r, check)
 				} else {
 					check([]int{15, r.Intn(16), 15, r.Intn(16)})
 					check([]int{r.Intn(16), 15, r.Intn(16), 15})
@@ -374,7 +374,7 @@ func TestCommitCutBehindOneThatFailed(t *testing.T) {
 				if all = w.Commit() == nil; all {
 					may = may[1:]
 				}
-				survivors(d.Pending(), r, func(keep []int) {
+				survivors(d.Pending(), 2, r, func(keep []int) {
 					found(t, fmt.Sprintf("%s, failed behind %d calls, the next behind %d, sectors %v", name, at, off, keep), d.After(keep), may...)
 				})
 			}
@@ -404,7 +404,7 @@ func TestFormatBehindCommit(t *testing.T) {
 					if all = Format(d) == nil; all {
 						may = []string{""}
 					}
-					survivors(d.Pending(), r, func(keep []int) {
+					survivors(d.Pending(), 2, r, func(keep []int) {
 						found(t, fmt.Sprintf("%s, failed behind %d calls, Format behind %d, sectors %v", name, at, off, keep), d.After(keep), may...)
 					})
 				}
