@@ -19,7 +19,7 @@ func Append(b []byte, n uint64, bytes int) []byte {
 	return b
 }
 
-// Sum is FNV-1a: each of its steps can be undone, so no change of a single byte leaves it as it was.
+// Sum is FNV-1a: each of its steps can be undone, so no change of a single byte leaves it as it was. Of bytes that differ in more it tells nothing for sure: others with the same sum are found soon.
 func Sum(b []byte) uint64 {
 	s := uint64(14695981039346656037)
 	for _, x := range b {

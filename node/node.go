@@ -7,8 +7,11 @@ import (
 	"shadow/volume"
 )
 
-// Least is how many entries a node has at least, unless it is the topmost. It keeps trees low and small: of n keys there are never more than n/2 + 1 nodes, and in the blocks of the greatest device never more than 6 levels.
+// Least is how many entries a node has at least, unless it is the topmost. It keeps trees low and small: of n keys there are never more than n/2 + 1 nodes.
 const Least = 3
+
+// Levels is how many a tree has at most: on one more there would be more lowest nodes than the greatest device has blocks, as the topmost has two links at least.
+const Levels = 6
 
 // Node is of level 0, with pairs, or of a higher one, with links.
 type Node struct {
@@ -22,7 +25,7 @@ type Pair struct {
 	api.Pair
 }
 
-// Place is where a node lies, and the sum of what lies there: by that it is known from any other that was laid, or is to be laid, in the same block. A node that lies nowhere has no place.
+// Place is where a node lies, and the sum of what lies there: by that it is seen, if a bit of it was turned. Another node may have the same sum, so a place holds only as long as nothing is laid over the node. One that lies nowhere has no place.
 type Place struct {
 	Block int
 	Sum   uint64

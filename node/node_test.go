@@ -285,3 +285,14 @@ func TestLay(t *testing.T) {
 		t.Errorf("P12: eight nodes take %d writes", d.Writes())
 	}
 }
+
+// Levels is the height of the highest tree that a device has blocks for.
+func TestLevels(t *testing.T) {
+	level, nodes, levels := 1, 1, 1
+	for next := 2; nodes+next <= api.MaxBlocks; next *= Least {
+		level, nodes, levels = next, nodes+next, levels+1
+	}
+	if levels != Levels {
+		t.Errorf("P4: a tree of %d nodes, %d of them the lowest, has %d levels", nodes, level, levels)
+	}
+}

@@ -244,6 +244,7 @@ func TestNothingToCommit(t *testing.T) {
 
 // A failure of power at each call of a Commit, with each choice of what survives: what was committed is found, or all of the transaction, and it stays.
 func TestCommitCut(t *testing.T) {
+	t.Parallel()
 	for name, s := range stories() {
 		r := rand.New(rand.NewSource(1))
 		both, done := map[string]int{}, false
@@ -302,6 +303,7 @@ func TestOpenCutBehindCommit(t *testing.T) {
 
 // An error told at each call of a Commit, and another store opened, with or without a failure of power; an Open that is told an error, too, leaves what may be there.
 func TestCommitTold(t *testing.T) {
+	t.Parallel()
 	for name, s := range stories() {
 		r := rand.New(rand.NewSource(3))
 		for at, done := 0, false; !done; at++ {
@@ -349,6 +351,7 @@ func poisoned(t *testing.T, x *DB, y *Txn, c *Cursor) {
 
 // Failures again behind a Commit that failed: the next one is cut off at each call, on what Open found without a failure of power.
 func TestCommitCutBehindOneThatFailed(t *testing.T) {
+	t.Parallel()
 	for _, name := range []string{"another value", "the last key", "two and one", "a second level", "one of many", "in blocks used again"} {
 		s := stories()[name]
 		r := rand.New(rand.NewSource(4))
@@ -413,14 +416,22 @@ func TestFormatBehindCommit(t *testing.T) {
 	}
 }
 
-// may be there: a device, and what may be there, as all that was called and answered so far says.
+// held is a device whose disk may be exchanged under a store.
+type held struct {
+	*api.Disk
+}
+
+// maybe is a device, and what may be there, as all that was called and answered so far says.
 type maybe struct {
 	*testing.T
-	r    *rand.Rand
-	d    *api.Disk
-	x    *DB // nil, if no store is open
-	may  []string
-	none bool // Open may find nothing
+	r      *rand.Rand
+	d      *held
+	x      *DB // nil, if no store is open
+	may    []string
+	none   bool     // Open may find nothing
+	was    []string // what was there at some time since the last Format, or was to be
+	turned bool     // a bit was turned since then, and none was opened since
+	sound  bool     // Format was answered with nil, and no bit was turned since
 }
 
 // fail lets the device tell an error, or lose its power, behind some calls, or not at all.
@@ -439,9 +450,10 @@ func (m *maybe) format() {
 	m.x = nil
 	switch err := Format(m.d); told(err) {
 	case api.OK:
-		m.may, m.none = []string{""}, false
+		m.may, m.was, m.none, m.turned, m.sound = []string{""}, []string{""}, false, false, true
 	case api.ErrIO:
-		m.may, m.none = append(m.may, ""), m.none || len(m.may) == 0
+		m.none = m.none || len(m.may) == 0
+		m.may, m.was = append(m.may, ""), append(m.was, "")
 	default:
 		m.Fatal("P3: Format:", err)
 	}
@@ -455,30 +467,57 @@ func (m *maybe) open() {
 	switch told(err) {
 	case api.OK:
 		y := begin(m.T, x, false)
-		l, err := all(y, "", last)
+		got, ok := m.sees(y)
 		if m.r.Intn(2) == 0 {
 			y.Abort() // if not, one that reads goes on
 		}
-		if err != nil { // the power is off
+		if !ok { // the power is off
 			m.x = nil
 			return
 		}
-		got := ""
-		for _, p := range l {
-			got += p.Key + "=" + p.Value + " "
-		}
-		if !slices.Contains(m.may, got) {
-			m.Fatalf("P4, P9, P10: found %s, where %q may be", got, m.may)
-		}
-		m.may, m.none = []string{got}, false
+		m.find(got)
 	case api.ErrCorrupt:
-		if !m.none && len(m.may) > 0 {
+		if !m.none && !m.turned && len(m.may) > 0 {
 			m.Fatalf("P4: found nothing, where %q may be", m.may)
 		}
 	case api.ErrIO:
 	default:
 		m.Fatal("P4: Open:", err)
 	}
+}
+
+// sees is what a transaction sees, if the device tells it.
+func (m *maybe) sees(y *Txn) (string, bool) {
+	l, err := all(y, "", last)
+	s := ""
+	for _, p := range l {
+		s += p.Key + "=" + p.Value + " "
+	}
+	return s, err == nil
+}
+
+// find: Open found this.
+func (m *maybe) find(got string) {
+	if m.turned && !slices.Contains(m.was, got) {
+		m.Fatalf("P13: a bit turned: found %q, where %q were", got, m.was)
+	}
+	if !m.turned && !slices.Contains(m.may, got) {
+		m.Fatalf("P4, P9, P10: found %q, where %q may be", got, m.may)
+	}
+	m.may, m.none, m.turned = []string{got}, false, false
+}
+
+// key is one that a transaction may see, or may not.
+func (m *maybe) key(y *Txn) string {
+	k := fmt.Sprintf("%0*d", 1+7*m.r.Intn(2), m.r.Intn(9))
+	if m.r.Intn(2) == 0 {
+		return k
+	}
+	l, _ := all(y, "", last)
+	if len(l) == 0 {
+		return k
+	}
+	return l[m.r.Intn(len(l))].Key
 }
 
 func (m *maybe) commit() {
@@ -488,28 +527,23 @@ func (m *maybe) commit() {
 		return
 	}
 	for range m.r.Intn(12) {
-		k := fmt.Sprintf("%0*d", 1+7*m.r.Intn(2), m.r.Intn(9))
-		if m.r.Intn(3) > 0 {
+		if k := m.key(y); m.r.Intn(3) > 0 {
 			y.Put(k, strings.Repeat("v", m.r.Intn(13)))
 		} else {
 			y.Delete(k)
 		}
 	}
-	l, err := all(y, "", last)
-	if err != nil {
+	s, ok := m.sees(y)
+	if !ok {
 		m.x = nil
 		return
-	}
-	s := ""
-	for _, p := range l {
-		s += p.Key + "=" + p.Value + " "
 	}
 	m.fail(30)
 	switch err = y.Commit(); told(err) {
 	case api.OK:
-		m.may = []string{s}
+		m.may, m.was = []string{s}, append(m.was, s)
 	case api.ErrIO:
-		m.may, m.x = append(m.may, s), nil
+		m.may, m.was, m.x = append(m.may, s), append(m.was, s), nil
 	case api.ErrSpace:
 	default:
 		m.Fatal("P9: Commit:", err)
@@ -522,30 +556,40 @@ func (m *maybe) cut() {
 	for i := range keep {
 		keep[i] = []int{0, 15, m.r.Intn(16)}[m.r.Intn(3)]
 	}
-	m.d, m.x = m.d.After(keep), nil
+	m.d, m.x = &held{m.d.After(keep)}, nil
+	if m.sound {
+		either(m.T, "behind a failure of power", m.d.Disk, m.was)
+	}
 }
 
-// Commits, Opens, Formats and failures, one behind the other, in any order.
-func TestWhatMayBeThere(t *testing.T) {
-	for seed := range int64(1500) {
-		m := &maybe{T: t, r: rand.New(rand.NewSource(seed)), d: api.NewDisk(10 + int(seed%40))}
-		for range 60 {
-			switch n := m.r.Intn(20); {
-			case n == 0 || len(m.may) == 0 && n < 9:
-				m.format()
-			case n < 4:
-				m.cut()
-			case m.x == nil:
-				m.open()
-			default:
-				m.commit()
-			}
+// goOn makes calls, one behind the other, in any order.
+func (m *maybe) goOn(calls int) {
+	for range calls {
+		switch n := m.r.Intn(20); {
+		case n == 0 || len(m.may) == 0 && n < 9:
+			m.format()
+		case n < 4:
+			m.cut()
+		case m.x == nil:
+			m.open()
+		default:
+			m.commit()
 		}
+	}
+}
+
+// Commits, Opens, Formats and failures, one behind the other.
+func TestWhatMayBeThere(t *testing.T) {
+	t.Parallel()
+	for seed := range int64(1500) {
+		m := &maybe{T: t, r: rand.New(rand.NewSource(seed)), d: &held{api.NewDisk(10 + int(seed%40))}}
+		m.goOn(60)
 	}
 }
 
 // Those that read see what was committed when they began, whatever is committed then, by All, by Get and by cursors, till they are over.
 func TestReadersStay(t *testing.T) {
+	t.Parallel()
 	for seed := range int64(20) {
 		r := rand.New(rand.NewSource(seed))
 		x := open(t, formatted(t, 400, 1))
@@ -774,29 +818,29 @@ func TestCommitsAlike(t *testing.T) {
 	}
 }
 
-// The head is written behind all nodes, and those are sure then; it is written over the older one.
-func TestHeadBehindNodes(t *testing.T) {
+// The head that leads to new nodes is written behind them all, and they are sure then. Ahead of them one is written over the older head, which may lead to what they are written over, and is sure, too.
+func TestHeadsAndNodes(t *testing.T) {
 	d := &recorded{Disk: formatted(t, 100, 1)}
 	x := open(t, d)
 	for i := range 4 {
 		d.calls = nil
-		place := int((x.committed.Number + 1) % head.Slots)
+		older := int((x.committed.Number + 1) % head.Slots)
 		commit(t, x, puts(fmt.Sprint(i), keys(30)...)...)
 		var order []string
 		for _, c := range d.calls {
 			switch {
-			case strings.HasPrefix(c, fmt.Sprintf("write %d ", place)):
-				order = append(order, "head")
-			case strings.HasPrefix(c, "write 0 "), strings.HasPrefix(c, "write 1 "):
-				order = append(order, "the newer head")
+			case strings.HasPrefix(c, fmt.Sprintf("write %d ", older)):
+				order = append(order, "older")
+			case strings.HasPrefix(c, fmt.Sprintf("write %d ", 1-older)):
+				order = append(order, "newer")
 			case strings.HasPrefix(c, "write"):
-				order = append(order, "node")
+				order = append(order, "nodes")
 			case c == "flush":
 				order = append(order, c)
 			}
 		}
-		if s := strings.Join(slices.Compact(order), " "); s != "node flush head flush" {
-			t.Errorf("P9: Commit: %s", s)
+		if s := strings.Join(slices.Compact(order), " "); s != "older flush nodes flush newer flush" {
+			t.Errorf("P9, P13: Commit: %s", s)
 		}
 	}
 }
@@ -817,26 +861,6 @@ func TestCommitOnStrangeDevices(t *testing.T) {
 	want(t, "P1: Commit on a device that breaks down", y.Commit(), api.ErrIO)
 	poisoned(t, x, y, c)
 	found(t, "a device that broke down", d.Disk, s)
-}
-
-// A bit that is turned behind Commits: what is found was committed at some time, or nothing is.
-func TestTurnedBitsBehindCommits(t *testing.T) {
-	for _, name := range []string{"the last key", "a second level", "in blocks used again"} {
-		s := stories()[name]
-		d := formatted(t, s.blocks, 1)
-		x := open(t, d)
-		was := []string{""}
-		for _, changes := range append(s.ahead, s.last) {
-			was = append(was, commit(t, x, changes...))
-		}
-		for bit := range s.blocks * api.Block * 8 {
-			if x, err := Open(d.Turned(bit)); err != nil {
-				want(t, "P13: Open", err, api.ErrCorrupt)
-			} else if got := content(t, x); !slices.Contains(was, got) {
-				t.Fatalf("P13: %s, bit %d turned: found %s", name, bit, got)
-			}
-		}
-	}
 }
 
 // Many goroutines write, each in its turn, and others read: each sees one and the same transaction's values in all keys, as long as it goes on.

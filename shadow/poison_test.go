@@ -6,6 +6,9 @@ import (
 	"testing"
 
 	"shadow/api"
+	"shadow/code"
+	"shadow/node"
+	"shadow/volume"
 )
 
 // scene is a store with transactions that go on, are over, and have cursors.
@@ -210,5 +213,43 @@ func TestPoisonedByStrangeDevices(t *testing.T) {
 		}
 		_, _, err = c.First()
 		want(t, "P1: First, "+name, err, api.ErrPoisoned)
+	}
+}
+
+// liar is a device that gives, from some time on, other bytes for a block than were written.
+type liar struct {
+	*api.Disk
+	block int // 0: it does not lie yet
+	gives volume.Block
+}
+
+func (d *liar) Read(i int) ([]byte, error) {
+	if i == d.block && i > 0 {
+		return d.gives[:], nil
+	}
+	return d.Disk.Read(i)
+}
+
+// A device gives a node that leads to itself, and has the sum of the one that was written: every call ends.
+func TestEndsOnALiar(t *testing.T) {
+	for _, name := range []string{"Get", "All", "First", "Last", "Seek", "Put", "Delete"} {
+		d := &liar{Disk: formatted(t, 20, 1)}
+		x := open(t, d)
+		commit(t, x, "k=\x0a\x15\x0f\x0a\x68\x3d\x06\x03\x18\x08\x7b\x05")
+		at := x.committed.Root
+		n := &node.Node{Level: 1, Links: []node.Link{{Place: at}, {Key: " Cugn!Rb", Place: at}, {Key: "\x3d\x4d\x2c\x1e\x63\xab\x6d\xa5", Place: at}}}
+		d.gives = n.Block()
+		if code.Sum(d.gives[:]) != at.Sum {
+			t.Fatal("P1: the node has another sum: find one that has the same")
+		}
+		y := begin(t, x, true)
+		c := cursor(t, y)
+		d.block = at.Block
+		any, err := calls(x, y, c)[name]()
+		want(t, "P1: "+name+" on a device that lies", err, api.ErrIO)
+		if any {
+			t.Errorf("P1: %s on a device that lies tells something", name)
+		}
+		poisoned(t, x, y, c)
 	}
 }

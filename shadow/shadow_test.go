@@ -3,7 +3,6 @@ package shadow
 import (
 	"errors"
 	"math"
-	"math/rand"
 	"strings"
 	"sync"
 	"testing"
@@ -320,50 +319,6 @@ func TestFormatsThatFail(t *testing.T) {
 					t.Errorf("P3: Format (%v), off behind %d calls, sectors %v: the head %d; it was %d", err, at, keep, m, n)
 				}
 			})
-		}
-	}
-}
-
-// Bytes of which nothing is known: Open answers, and Format makes a store of them.
-func TestUnknownBytes(t *testing.T) {
-	r := rand.New(rand.NewSource(1))
-	good := formatted(t, 8, 2).Bytes()
-	for range 3000 {
-		b := []byte(good)
-		for range r.Intn(40) {
-			b[r.Intn(2*api.Block)] = byte(r.Intn(256))
-		}
-		d := api.Laid(8, string(b))
-		x, err := Open(d)
-		if e := told(err); e != api.OK && e != api.ErrCorrupt || (x == nil) != (err != nil) {
-			t.Fatalf("P1, P4: Open of unknown bytes: %v", err)
-		}
-		want(t, "P3: Format of unknown bytes", Format(d), api.OK)
-		opened(t, d)
-	}
-}
-
-// The same, where a tree is: each bit that is turned undoes the store, or leaves what is committed, or what was ahead of it.
-func TestTurnedBits(t *testing.T) {
-	d := stored(t, 20, keys(12)...)
-	whole := sees(t, begin(t, open(t, d), false))
-	found := map[string]int{}
-	for bit := range 20 * api.Block * 8 {
-		x, err := Open(d.Turned(bit))
-		if err != nil {
-			want(t, "P13: Open", err, api.ErrCorrupt)
-			found["nothing"]++
-			continue
-		}
-		s := sees(t, begin(t, x, false))
-		if s != whole && s != "" {
-			t.Fatalf("P13: bit %d turned: %s", bit, s)
-		}
-		found[s]++
-	}
-	for _, s := range []string{"nothing", whole, ""} {
-		if found[s] == 0 {
-			t.Errorf("P13: no bit turned leaves %q", s)
 		}
 	}
 }

@@ -8,6 +8,7 @@ import (
 
 	"shadow/api"
 	"shadow/head"
+	"shadow/node"
 	"shadow/tree"
 	"shadow/volume"
 )
@@ -72,16 +73,23 @@ func (s *store) leave(number uint64) {
 	delete(s.readers, number)
 }
 
-// commit lays a tree down beside what is committed and what is read still, and behind that the head that leads to it: so both are whole as long as either may be found.
+// commit lays a tree down beside what is committed and what is read still, and behind that the head that leads to it. Ahead of that it makes both heads lead to what is committed: so nothing is ever laid over a node to which a head leads, and where one head is undone, the other leads to a whole tree. The sums in places could not see to that, since two nodes may have the same.
 func (s *store) commit(then tree.Tree) {
 	now := s.now()
 	if then == now {
 		return
 	}
-	root, blocks := then.Lay(append(s.read(), now)...)
+	free, blocks := then.Room(append(s.read(), now)...)
+	s.lead(s.committed.Root)
+	s.lead(then.Lay(free))
+	s.blocks = blocks
+}
+
+// lead lays a head that leads to a root, over the older one: that root is committed then.
+func (s *store) lead(root node.Place) {
 	h := s.committed.Next(root)
 	head.Lay(s.on, h)
-	s.committed, s.blocks = h, blocks
+	s.committed = h
 }
 
 // read are the trees that are read still, in the order in which the transactions began: that of the map would change the order in which the device is asked.

@@ -12,7 +12,7 @@ func (t Tree) Put(p api.Pair) Tree {
 	if t.empty() {
 		return t.under(node.Leaves("", []node.Pair{{Pair: p}}))
 	}
-	return t.under(t.with(t.root, node.Pair{Pair: p}))
+	return t.under(t.with(t.root, t.top(), node.Pair{Pair: p}))
 }
 
 // Delete is the tree in which the key has no value.
@@ -20,7 +20,7 @@ func (t Tree) Delete(key string) Tree {
 	if _, there := t.Get(key); !there {
 		return t
 	}
-	return t.under(t.without(t.root, key))
+	return t.under(t.without(t.root, t.top(), key))
 }
 
 // under is the tree with these topmost links, one or two. A node with no entry, or with one link, is no root.
@@ -38,9 +38,8 @@ func (t Tree) under(links []node.Link) Tree {
 	return Tree{t.on, root}
 }
 
-// with is what leads, in place of a link, to what it led to and a pair.
-func (t Tree) with(l node.Link, p node.Pair) []node.Link {
-	n := t.node(l)
+// with is what leads, in place of a link to a node, to what is in that and a pair.
+func (t Tree) with(l node.Link, n *node.Node, p node.Pair) []node.Link {
 	if n.Level == 0 {
 		i, there := spot(n, p.Key)
 		upTo := i
@@ -50,28 +49,29 @@ func (t Tree) with(l node.Link, p node.Pair) []node.Link {
 		return node.Leaves(l.Key, replaced(n.Pairs, i, upTo, p))
 	}
 	i := way(n, p.Key)
-	return node.Branches(l.Key, n.Level, replaced(n.Links, i, i+1, t.with(n.Links[i], p)...))
+	next := n.Links[i]
+	return node.Branches(l.Key, n.Level, replaced(n.Links, i, i+1, t.with(next, t.node(next, n.Level), p)...))
 }
 
-// without is what leads, in place of a link, to what it led to but a key, which is there. It may be a single node with too few entries: who holds the link mends that, as he knows its neighbours. It may be two nodes, too, since a link may have got a longer key.
-func (t Tree) without(l node.Link, key string) []node.Link {
-	n := t.node(l)
+// without is what leads, in place of a link to a node, to what is in that but a key, which is there. It may be a single node with too few entries: who holds the link mends that, as he knows its neighbours. It may be two nodes, too, since a link may have got a longer key.
+func (t Tree) without(l node.Link, n *node.Node, key string) []node.Link {
 	if n.Level == 0 {
 		i, _ := spot(n, key)
 		return node.Leaves(l.Key, replaced(n.Pairs, i, i+1))
 	}
 	i := way(n, key)
-	links := replaced(n.Links, i, i+1, t.without(n.Links[i], key)...)
-	return node.Branches(l.Key, n.Level, t.mended(links, i))
+	next := n.Links[i]
+	links := replaced(n.Links, i, i+1, t.without(next, t.node(next, n.Level), key)...)
+	return node.Branches(l.Key, n.Level, t.mended(links, n.Level, i))
 }
 
-// mended is the list of links, of which the i-th leads to a node that may have too few entries: then it is made one with its neighbour, or shares the neighbour's entries.
-func (t Tree) mended(links []node.Link, i int) []node.Link {
+// mended is the list of a node's links, of which the i-th leads to a node that may have too few entries: then it is made one with its neighbour, or shares the neighbour's entries.
+func (t Tree) mended(links []node.Link, level int, i int) []node.Link {
 	if links[i].New.Count() >= node.Least {
 		return links
 	}
 	i = min(i, len(links)-2)
-	l, a, b := links[i], t.node(links[i]), t.node(links[i+1])
+	l, a, b := links[i], t.node(links[i], level), t.node(links[i+1], level)
 	if a.Level == 0 {
 		return replaced(links, i, i+2, node.Leaves(l.Key, slices.Concat(a.Pairs, b.Pairs))...)
 	}

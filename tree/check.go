@@ -39,10 +39,10 @@ func (c *check) read(at node.Place) *node.Node {
 	return n
 }
 
-// root reads the topmost node: it may have few entries, but a pair, or two links.
+// root reads the topmost node: it may have few entries, but a pair, or two links. How high it may be is asked ahead of all that is below: so it ends soon, even if the device makes up what it gives.
 func (c *check) root(at node.Place) *node.Node {
 	n := c.read(at)
-	need(n.Count() > min(n.Level, 1))
+	need(n.Level < node.Levels && n.Count() > min(n.Level, 1))
 	return n
 }
 

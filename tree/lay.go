@@ -7,23 +7,28 @@ import (
 	"shadow/volume"
 )
 
-// Lay lays the new nodes of a tree down, in blocks in which nothing lies of the trees that are kept, and makes sure of them. It tells where the root lies then, and in how many blocks the whole tree. It throws ErrSpace, ahead of the first write, if there are too few.
-func (t Tree) Lay(kept ...Tree) (node.Place, int) {
+// Room finds blocks for the new nodes of a tree: those in which nothing lies of the tree itself, nor of those that are kept. It tells, too, in how many blocks the whole tree lies, once it is laid. It throws ErrSpace, if there are too few.
+func (t Tree) Room(kept ...Tree) (free []int, size int) {
 	used := blocks{}
 	used.add(t)
-	size := len(used) + t.New()
+	size = len(used) + t.New()
 	used.add(kept...)
-	free := used.others(t.on)
+	free = used.others(t.on)
 	if t.New() > len(free) {
 		volume.Throw(api.ErrSpace)
 	}
+	return free, size
+}
+
+// Lay lays the new nodes of a tree down, in the first of these blocks, and makes sure of them. It tells where the root lies then.
+func (t Tree) Lay(free []int) node.Place {
 	root := t.lay(t.root, func() int {
 		next := free[0]
 		free = free[1:]
 		return next
 	})
 	t.on.Settle()
-	return root.Place, size
+	return root.Place
 }
 
 // lay is the link that leads to where a node lies, which is laid now, if it is new: behind those below it, since it has their places in it.
@@ -45,7 +50,7 @@ type blocks map[int]struct{}
 func (b blocks) add(trees ...Tree) {
 	for _, t := range trees {
 		if !t.empty() && b.take(t.root) {
-			b.below(t, t.node(t.root))
+			b.below(t, t.top())
 		}
 	}
 }
@@ -64,7 +69,7 @@ func (b blocks) take(l node.Link) bool {
 func (b blocks) below(t Tree, n *node.Node) {
 	for _, l := range n.Links {
 		if b.take(l) && n.Level > 1 {
-			b.below(t, t.node(l))
+			b.below(t, t.node(l, n.Level))
 		}
 	}
 }

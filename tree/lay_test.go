@@ -21,7 +21,7 @@ func lies(t Tree) map[int]int {
 		if l.New == nil {
 			out[l.Block]++
 		}
-		for _, below := range t.node(l).Links {
+		for _, below := range t.node(l, node.Levels).Links {
 			walk(below)
 		}
 	}
@@ -31,12 +31,12 @@ func lies(t Tree) map[int]int {
 	return out
 }
 
-// lay lays a tree, and is it as it lies then; it tells what was thrown.
+// lay lays a tree where there is room beside others, and is it as it lies then; it tells what was thrown.
 func lay(t Tree, kept ...Tree) (then Tree, size int, err error) {
 	err = volume.Catch("Lay", func() {
-		var root node.Place
-		root, size = t.Lay(kept...)
-		then = At(t.on, root)
+		var free []int
+		free, size = t.Room(kept...)
+		then = At(t.on, t.Lay(free))
 	})
 	return then, size, err
 }

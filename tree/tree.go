@@ -42,13 +42,18 @@ func (t Tree) empty() bool {
 	return t.root == node.Link{}
 }
 
-// node is what a link leads to. What lies on the device was read when the store was opened, or laid since: if it is another now, the device broke down.
-func (t Tree) node(l node.Link) *node.Node {
+// top is the topmost node of a tree that is not empty.
+func (t Tree) top() *node.Node {
+	return t.node(t.root, node.Levels)
+}
+
+// node is what a link leads to, below a level. What lies on the device was read when the store was opened, or laid since: if it is another now, the device broke down. That is asked of the level, too, and not of the sum alone, which another may have: as long as levels fall, all that goes down a tree ends.
+func (t Tree) node(l node.Link, above int) *node.Node {
 	if l.New != nil {
 		return l.New
 	}
 	n, ok := node.Read(t.on, l.Place)
-	if !ok {
+	if !ok || n.Level >= above {
 		t.on.Spoilt(l.Block)
 	}
 	return n
@@ -59,9 +64,9 @@ func (t Tree) Get(key string) (string, bool) {
 	if t.empty() {
 		return "", false
 	}
-	n := t.node(t.root)
+	n := t.top()
 	for n.Level > 0 {
-		n = t.node(n.Links[way(n, key)])
+		n = t.node(n.Links[way(n, key)], n.Level)
 	}
 	i, there := spot(n, key)
 	if !there {
@@ -96,12 +101,11 @@ func (t Tree) First(right func(key string) bool) (api.Pair, bool) {
 	if t.empty() {
 		return api.Pair{}, false
 	}
-	return t.first(t.root, right)
+	return t.first(t.top(), right)
 }
 
 // first begins at the last link whose key is not right: behind it all are. So it looks at two links at most.
-func (t Tree) first(l node.Link, right func(key string) bool) (api.Pair, bool) {
-	n := t.node(l)
+func (t Tree) first(n *node.Node, right func(key string) bool) (api.Pair, bool) {
 	if n.Level == 0 {
 		if i := firstOf(n.Pairs, func(p node.Pair) bool { return right(p.Key) }); i < len(n.Pairs) {
 			return n.Pairs[i].Pair, true
@@ -109,7 +113,7 @@ func (t Tree) first(l node.Link, right func(key string) bool) (api.Pair, bool) {
 		return api.Pair{}, false
 	}
 	for _, below := range n.Links[lastOf(n.Links, func(l node.Link) bool { return !right(l.Key) }):] {
-		if p, there := t.first(below, right); there {
+		if p, there := t.first(t.node(below, n.Level), right); there {
 			return p, true
 		}
 	}
@@ -121,12 +125,11 @@ func (t Tree) Last(right func(key string) bool) (api.Pair, bool) {
 	if t.empty() {
 		return api.Pair{}, false
 	}
-	return t.last(t.root, right)
+	return t.last(t.top(), right)
 }
 
 // last begins at the last link whose key is right: ahead of it all are. So it looks at two links at most.
-func (t Tree) last(l node.Link, right func(key string) bool) (api.Pair, bool) {
-	n := t.node(l)
+func (t Tree) last(n *node.Node, right func(key string) bool) (api.Pair, bool) {
 	if n.Level == 0 {
 		i := lastOf(n.Pairs, func(p node.Pair) bool { return right(p.Key) })
 		if right(n.Pairs[i].Key) {
@@ -136,7 +139,7 @@ func (t Tree) last(l node.Link, right func(key string) bool) (api.Pair, bool) {
 	}
 	upTo := lastOf(n.Links, func(l node.Link) bool { return right(l.Key) })
 	for _, below := range slices.Backward(n.Links[:upTo+1]) {
-		if p, there := t.last(below, right); there {
+		if p, there := t.last(t.node(below, n.Level), right); there {
 			return p, true
 		}
 	}

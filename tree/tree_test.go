@@ -4,6 +4,7 @@ import (
 	"errors"
 	"fmt"
 	"maps"
+	"math"
 	"math/rand"
 	"slices"
 	"strings"
@@ -22,7 +23,7 @@ func laid(t Tree) (Tree, *api.Disk) {
 	to, next := volume.On(d), head.Slots-1
 	var lay func(l node.Link) node.Place
 	lay = func(l node.Link) node.Place {
-		old := t.node(l)
+		old := t.node(l, node.Levels)
 		n := &node.Node{Level: old.Level, Pairs: old.Pairs}
 		for _, below := range old.Links {
 			n.Links = append(n.Links, node.Link{Key: below.Key, Place: lay(below)})
@@ -76,7 +77,7 @@ func levels(t Tree) int {
 	if t.empty() {
 		return 0
 	}
-	return t.node(t.root).Level + 1
+	return t.top().Level + 1
 }
 
 func sorted(m map[string]string) []api.Pair {
@@ -510,5 +511,120 @@ func TestCheckOfOneNodeTwice(t *testing.T) {
 	root := (&node.Node{Level: 1, Links: []node.Link{{Place: at}, {Key: "g", Place: at}}}).Lay(v, 6)
 	if err := corrupt(At(v, root)); !errors.Is(err, api.ErrCorrupt) {
 		t.Errorf("P13: %v, want ErrCorrupt", err)
+	}
+}
+
+// itself is a node, for block 2, whose links all lead to itself, with the right sum.
+func itself() (*node.Node, node.Place) {
+	at := node.Place{Block: 2, Sum: 0x0123456789abcdef}
+	return &node.Node{Level: 1, Links: []node.Link{{Place: at}, {Key: " Cugn!Rb", Place: at}, {Key: "\x3d\x4d\x2c\x1e\x63\xab\x6d\xa5", Place: at}}}, at
+}
+
+// A node that leads to itself, which only unknown bytes have, or a device that gives others than were written: all that goes down ends.
+func TestItself(t *testing.T) {
+	n, at := itself()
+	v := volume.On(api.NewDisk(20))
+	if n.Lay(v, at.Block) != at {
+		t.Fatal("P13: the node does not lead to itself: find another")
+	}
+	tr := At(v, at)
+	if err := corrupt(tr); !errors.Is(err, api.ErrCorrupt) {
+		t.Errorf("P13: Check: %v, want ErrCorrupt", err)
+	}
+	broken(t, tr)
+}
+
+// broken: the device is told to have broken down, however one goes down the tree.
+func broken(t *testing.T, tr Tree) {
+	t.Helper()
+	for name, call := range map[string]func(){
+		"Get":    func() { tr.Get("a") },
+		"First":  func() { tr.First(func(k string) bool { return k > "a" }) },
+		"Last":   func() { tr.Last(func(k string) bool { return k < "a" }) },
+		"Put":    func() { tr.Put(api.Pair{Key: "a"}) },
+		"Delete": func() { tr.Delete("a") },
+	} {
+		if err := volume.Catch(name, call); !errors.Is(err, api.ErrIO) || !strings.Contains(err.Error(), "not as it was written") {
+			t.Errorf("P1: %s: %v, want ErrIO", name, err)
+		}
+	}
+}
+
+// Levels that do not fall, and a tree that is higher than any can be.
+func TestLevelsFall(t *testing.T) {
+	abc, def := leaf("a", "b", "c"), leaf("d", "e", "f")
+	low := branch([]string{"", "d"}, abc, def)
+	for name, s := range map[string]shape{
+		"alike":    {level: 1, keys: []string{"", "k"}, below: []shape{low, low}},
+		"rising":   {level: 1, keys: []string{"", "k"}, below: []shape{{level: 2, keys: []string{"", "d"}, below: []shape{abc, def}}, low}},
+		"too many": {level: node.Levels, keys: []string{"", "d"}, below: []shape{abc, def}},
+	} {
+		t.Run(name, func(t *testing.T) {
+			v, next := volume.On(api.NewDisk(20)), head.Slots-1
+			broken(t, At(v, s.lay(v, &next)))
+		})
+	}
+}
+
+// The same, where room is sought beside such a tree, and where a node is made one with its neighbour.
+func TestLevelsFallElsewhere(t *testing.T) {
+	v, next := volume.On(api.NewDisk(20)), head.Slots-1
+	low := branch([]string{"", "d"}, leaf("a", "b", "c"), leaf("d", "e", "f"))
+	same := shape{level: 2, keys: []string{"", "k"}, below: []shape{{level: 2, keys: low.keys, below: low.below}, low}}
+	behind := branch([]string{"", "d"}, leaf("a", "b", "c"), low)
+	ahead := branch([]string{"", "d"}, low, leaf("d", "e", "f"))
+	for name, call := range map[string]func(){
+		"Room":             func() { At(v, node.Place{}).Room(At(v, same.lay(v, &next))) },
+		"Delete":           func() { At(v, behind.lay(v, &next)).Delete("a") },
+		"Delete behind it": func() { At(v, ahead.lay(v, &next)).Delete("d") },
+	} {
+		if err := volume.Catch(name, call); !errors.Is(err, api.ErrIO) {
+			t.Errorf("P1: %s: %v, want ErrIO", name, err)
+		}
+	}
+}
+
+// turncoat is a device that gives, from some read on, other bytes for a block than were written.
+type turncoat struct {
+	*api.Disk
+	reads, from int
+	block       int
+	gives       volume.Block
+}
+
+func (d *turncoat) Read(i int) ([]byte, error) {
+	d.reads++
+	if d.reads >= d.from && i == d.block {
+		return d.gives[:], nil
+	}
+	return d.Disk.Read(i)
+}
+
+// A leaf is found, and is a node that leads to itself when it is read again.
+func TestTurncoat(t *testing.T) {
+	n, at := itself()
+	twin := &node.Node{Pairs: []node.Pair{{Pair: api.Pair{Key: "k", Value: "\x0a\x15\x0f\x0a\x68\x3d\x06\x03\x18\x08\x7b\x05"}}}}
+	d := &turncoat{Disk: api.NewDisk(20), from: math.MaxInt, block: at.Block, gives: n.Block()}
+	v := volume.On(d)
+	if twin.Lay(v, at.Block) != at {
+		t.Fatal("P1: the leaf has another sum: find one that has the same")
+	}
+	root := (&node.Node{Level: 1, Links: []node.Link{{Place: at}, {Key: "l", Place: at}}}).Lay(v, 3)
+	tr := At(v, root)
+	d.from = d.reads + 4
+	if err := volume.Catch("Delete", func() { tr.Delete("k") }); !errors.Is(err, api.ErrIO) {
+		t.Errorf("P1: Delete: %v, want ErrIO", err)
+	}
+}
+
+// A tree that is higher than any can be is not gone through.
+func TestCheckOfTooHigh(t *testing.T) {
+	for _, level := range []int{node.Levels, node.Levels + 1, 255} {
+		d := &reads{api.NewDisk(20), map[int]int{}}
+		v, next := volume.On(d), head.Slots-1
+		at := shape{level: level, keys: []string{"", "d"}, below: []shape{leaf("a", "b", "c"), leaf("d", "e", "f")}}.lay(v, &next)
+		if err := corrupt(At(v, at)); !errors.Is(err, api.ErrCorrupt) || len(d.of) != 1 {
+			t.Errorf("P13: a root of level %d: %v, want ErrCorrupt; %d blocks are read", level, err, len(d.of))
+		}
 	}
 }
